@@ -1,0 +1,1 @@
+"""Owntables: integer rows known by their own tables."""
