@@ -9,6 +9,11 @@ def plus(first, second):
     return tuple([a + b for a, b in zip(first, second)])
 
 
+def minus(first, second):
+    """The difference of two places, coordinate by coordinate."""
+    return tuple([a - b for a, b in zip(first, second)])
+
+
 def row_of(numbers):
     """The row of a dict from places to numbers."""
     return [(place, numbers[place]) for place in sorted(numbers) if numbers[place] != 0]

@@ -110,6 +110,13 @@ class FormTest(unittest.TestCase):
             inner = [name for name in bound if name in imported + classes]
             self.assertEqual(sorted(inner), sorted(imported))
 
+    def test_imports_are_used(self):
+        for path, text, tree in self.each():
+            read = {node.id for node in ast.walk(tree) if isinstance(node, ast.Name)}
+            for node in tree.body:
+                if isinstance(node, ast.ImportFrom):
+                    self.assertLessEqual({alias.name for alias in node.names}, read)
+
     def test_methods_and_words(self):
         trees = [tree for path, text, tree in self.each()]
         own = {
