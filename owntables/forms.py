@@ -49,6 +49,19 @@ def normal(row):
     return shift(scale(row, sign), tuple([-x for x in corner]))
 
 
+def dense(row):
+    """The numbers at (0,), (1,) and so on of a row in one direction without places below (0,)."""
+    numbers = [0] * (row[-1][0][0] + 1) if row else []
+    for place, number in row:
+        numbers[place[0]] = number
+    return numbers
+
+
+def from_dense(numbers):
+    """The row in one direction with these numbers at (0,), (1,) and so on."""
+    return [((at,), number) for at, number in enumerate(numbers) if number != 0]
+
+
 def is_unit(row):
     """Whether the row has exactly one entry, whose number is 1 or -1."""
     return len(row) == 1 and abs(row[0][1]) == 1

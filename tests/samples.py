@@ -1,6 +1,8 @@
 """Rows and helpers that the tests share."""
 
 import copy
+import itertools
+import time
 
 ZERO = []
 ONE = [((0,), 1)]
@@ -55,6 +57,53 @@ def from_definition(first, second):
             place = tuple(a + b for a, b in zip(p, q))
             sums[place] = sums.get(place, 0) + n * m
     return sorted((place, number) for place, number in sums.items() if number)
+
+
+def line(*numbers):
+    """The row in one direction with these numbers from (0,) on."""
+    return [((k,), number) for k, number in enumerate(numbers) if number]
+
+
+def mirrored(row):
+    """The mirror of a row, written down from its definition."""
+    return sorted((tuple(-x for x in place), number) for place, number in row)
+
+
+def table_from_definition(row):
+    return from_definition(row, mirrored(row))
+
+
+def is_unit_times(row, other):
+    """Whether one row is a unit times the other one, by trying the only two units."""
+    if len(row) != len(other):
+        return False
+    if not row:
+        return True
+    by = [b - a for a, b in zip(row[0][0], other[0][0])]
+    moved = [(tuple(a + b for a, b in zip(place, by)), number) for place, number in row]
+    return other in (moved, [(place, -number) for place, number in moved])
+
+
+def all_lists(length, most):
+    """All lists of numbers from -most to most, at most `length` of them, without a zero at an end."""
+    for many in range(1, length + 1):
+        for numbers in itertools.product(range(-most, most + 1), repeat=many):
+            if numbers[0] and numbers[-1]:
+                yield list(numbers)
+
+
+def dense_list(row):
+    """The numbers of a row in one direction from its least place to its greatest one."""
+    found = dict(row)
+    return [found.get((x,), 0) for x in range(row[0][0][0], row[-1][0][0] + 1)] if row else []
+
+
+def quickly(case, function, *arguments, **named):
+    """The answer, which has to come in a short time."""
+    begin = time.process_time()
+    answer = function(*arguments, **named)
+    case.assertLess(time.process_time() - begin, 10)
+    return answer
 
 
 def lists_inside(value):
