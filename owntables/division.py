@@ -2,9 +2,9 @@
 
 from heapq import heappop, heappush
 
+from owntables.boxes import bounds
 from owntables.checks import places_length, same_dimension
 from owntables.errors import IsAFactor, NotAFactor, ZeroRow
-from owntables.forms import bounds
 from owntables.rows import add, key_base, keyed, minus, multiply, place_of, unkeyed
 
 
@@ -46,9 +46,11 @@ def divide(row, factor):
         times = rest[key] // lead
         partial[at] = times
         for other, number in terms:
-            if at + other not in rest:
-                heappush(queue, at + other)
-            rest[at + other] = rest.get(at + other, 0) - times * number
+            change = at + other
+            if change not in rest:
+                heappush(queue, change)
+                rest[change] = 0
+            rest[change] = rest[change] - times * number
     return unkeyed(partial, base, length), unkeyed(rest, base, length)
 
 

@@ -1,14 +1,9 @@
 """Normal rows, units, boxes and symmetry."""
 
+from owntables.boxes import bounds
 from owntables.checks import same_dimension
 from owntables.errors import ZeroRow
 from owntables.rows import mirror, scale, shift
-
-
-def bounds(row):
-    """For each direction a tuple of the least and the greatest coordinate of a row that is not zero."""
-    places = [place for place, number in row]
-    return [(min(column), max(column)) for column in zip(*places)]
 
 
 def low_corner(row):

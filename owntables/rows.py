@@ -2,6 +2,7 @@
 
 from owntables.checks import places_length, same_dimension, same_lengths
 from owntables.errors import BadPlace
+from owntables.products import crowded_product, is_crowded
 
 
 def plus(first, second):
@@ -12,6 +13,11 @@ def plus(first, second):
 def minus(first, second):
     """The difference of two places, coordinate by coordinate."""
     return tuple([a - b for a, b in zip(first, second)])
+
+
+def first_way(distance, length):
+    """The place of the given length that lies this far from the place of zeros in the first direction."""
+    return (distance, 0, 0)[:length]
 
 
 def row_of(numbers):
@@ -116,6 +122,8 @@ def scale(row, factor):
 def multiply(first, second):
     """The product of two rows."""
     same_dimension([first, second])
+    if is_crowded(first, second):
+        return crowded_product(first, second)
     base = key_base(first, second)
     right = keyed(second, base)
     sums = {}

@@ -174,3 +174,58 @@ class Dice:
             place = tuple(self.roll(0, size - 1) for size in sizes)
             numbers[place] = self.roll(-most, most)
         return sorted((place, number) for place, number in numbers.items() if number)
+
+
+def sum_of(*rows):
+    """The sum of rows, written down from its definition."""
+    sums = {}
+    for row in rows:
+        for place, number in row:
+            sums[place] = sums.get(place, 0) + number
+    return sorted((place, number) for place, number in sums.items() if number)
+
+
+def look_from_definition(row, reference):
+    return table_from_definition(sum_of(row, reference))
+
+
+def moved(row, by):
+    """The row with every place moved."""
+    return [(tuple(a + b for a, b in zip(place, by)), number) for place, number in row]
+
+
+def negated(row):
+    return [(place, -number) for place, number in row]
+
+
+def rows_in_box(sizes, most, low=0):
+    """All rows with coordinates from low on within a box of these sizes and numbers from -most to most."""
+    places = list(itertools.product(*[range(low, low + size) for size in sizes]))
+    for numbers in itertools.product(range(-most, most + 1), repeat=len(places)):
+        yield [(place, number) for place, number in zip(places, numbers) if number]
+
+
+def by_looks(rows, references):
+    """The rows in groups of those that look alike at all references, by the definition."""
+    groups = {}
+    for row in rows:
+        seen = tuple(tuple(look_from_definition(row, reference)) for reference in references)
+        groups.setdefault(seen, []).append(row)
+    return groups
+
+
+def origin(row):
+    """The place of zeros in the directions of the row, in one direction for the zero row."""
+    return tuple(0 for _ in row[0][0]) if row else (0,)
+
+
+LIMIT_BOXES = [((200,), (600,)), ((14, 14), (20, 30)), ((6, 6, 5), (8, 8, 9))]
+
+
+def limit_rows(seed, sizes, whole, many):
+    """Rows of 40 entries and great numbers in boxes of these sizes that lie together in the whole box."""
+    dice = Dice(seed)
+    return [
+        moved(dice.row(sizes, 40, 10 ** 12), [dice.roll(0, size - part) for size, part in zip(whole, sizes)])
+        for _ in range(many)
+    ]

@@ -4,10 +4,10 @@ import unittest
 
 from owntables.errors import HasRoot, MixedDimensions, NoRoot
 from owntables.places import pack
-from owntables.roots import check_no_root, has_root, root_certificate, square_root
-from owntables.rows import add, multiply, negate
+from owntables.roots import check_no_root, extract, has_root, root_certificate, square_root
+from owntables.rows import add, mirror, multiply, negate, scale, subtract
 from owntables.tables import own_table
-from samples import ALL_ROWS, ONE, ONE_WAY, TWO_WAYS, ZERO, Dice, check_calls, check_raises, from_definition
+from samples import ALL_ROWS, ONE, ONE_WAY, TWO_WAYS, ZERO, Dice, check_calls, check_raises, from_definition, quickly
 
 
 def in_half(place, row):
@@ -58,6 +58,22 @@ def rows_without_root():
 
 def own_square(row):
     return multiply(row, row)
+
+
+def symmetric_rows():
+    """Symmetric rows with a root, which is its own mirror or the negated one, and changed ones."""
+    dice = Dice(18)
+    for sizes in [(1,), (7,), (30,), (3, 5), (2, 3, 2), (1, 1, 9)]:
+        for most in [1, 3, 10 ** 12]:
+            for _ in range(8):
+                row = dice.row(sizes, 8, most)
+                by = tuple(dice.roll(0, 3) for _ in sizes)
+                back = tuple(-x for x in by)
+                for root in (own_table(row), subtract(row, mirror(row)), add(row, mirror(row))):
+                    square = own_square(root)
+                    yield from (square, scale(square, 4), scale(square, 3), negate(square))
+                    yield add(square, [((0,) * len(sizes), 1)])
+                    yield add(add(square, [(by, 2)]), [(back, 2)])
 
 
 def positive(row):
@@ -202,6 +218,36 @@ class RootCertificateTest(unittest.TestCase):
         for rows in itertools.product([one, two, ZERO], repeat=3):
             if one in rows and two in rows:
                 check_raises(self, MixedDimensions, check_no_root, rows[0], (rows[1], rows[2]))
+
+
+class SymmetricTest(unittest.TestCase):
+    def test_roots_of_symmetric_rows(self):
+        answers = {True: 0, False: 0}
+        for row in symmetric_rows():
+            self.assertEqual(row, mirror(row))
+            partial, rest = extract(row)
+            answers[rest == []] += 1
+            self.assertEqual(has_root(row), rest == [])
+            if rest:
+                check_raises(self, NoRoot, square_root, row)
+                self.assertTrue(check_no_root(row, root_certificate(row)))
+            else:
+                self.assertEqual(check_calls(self, square_root, row), partial)
+                check_raises(self, HasRoot, root_certificate, row)
+        self.assertTrue(min(answers.values()) > 500, answers)
+
+    def test_known_values(self):
+        self.assertEqual(square_root([((-2,), 1), ((0,), -2), ((2,), 1)]), [((-1,), 1), ((1,), -1)])
+        self.assertEqual(square_root([((-2,), 1), ((0,), 2), ((2,), 1)]), [((-1,), 1), ((1,), 1)])
+        self.assertEqual(square_root([((0, 0), 49)]), [((0, 0), 7)])
+        for row in ([((-2,), 1), ((2,), 1)], [((-2,), 1), ((0,), 1), ((2,), 1)], [((-2,), -1), ((0,), 2), ((2,), -1)]):
+            check_raises(self, NoRoot, square_root, row)
+
+    def test_numbers_that_would_grow(self):
+        # Without an end these extractions would go on with ever greater numbers.
+        row = [((-400,), 1), ((-398,), 2 * 10 ** 24), ((0,), 5), ((398,), 2 * 10 ** 24), ((400,), 1)]
+        self.assertFalse(quickly(self, has_root, row))
+        check_raises(self, NoRoot, square_root, row)
 
 
 if __name__ == "__main__":
