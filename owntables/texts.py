@@ -39,6 +39,13 @@ def follows(entry, row):
     return len(place) == len(last) and place > last
 
 
+def read_number(text):
+    """The integer that the text writes."""
+    if not is_decimal(text):
+        raise BadText(0)
+    return int(text)
+
+
 def write_place(place):
     """The written form of the place."""
     return ",".join([str(x) for x in place])
