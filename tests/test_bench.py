@@ -1,3 +1,4 @@
+import copy
 import unittest
 
 from owntables.bench import Bench, attempt, replay
@@ -150,7 +151,7 @@ class DeedTest(unittest.TestCase):
         bench.add_row(more)
         spoil(more)
         for told in (bench.row, bench.own, bench.journal, lambda: bench.look(ONE)):
-            before = told()
+            before = copy.deepcopy(told())
             spoil(told())
             self.assertEqual(told(), before)
         bench.undo()

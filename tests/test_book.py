@@ -1,3 +1,4 @@
+import copy
 import unittest
 
 from owntables.book import LookBook, read_book
@@ -122,12 +123,12 @@ class BookTest(unittest.TestCase):
     def test_copies(self):
         book = book_of(ROW, [ZERO, ONE])
         for told in (book.looks, book.rows, book.answer, book.journal):
-            before = told()
+            before = copy.deepcopy(told())
             spoil(told())
             self.assertEqual(told(), before)
         book.undo()
         for told in (book.looks, book.answer, book.kin):
-            before = told()
+            before = copy.deepcopy(told())
             spoil(told())
             self.assertEqual(told(), before)
         book.redo()

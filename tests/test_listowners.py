@@ -65,6 +65,8 @@ class OwnerTest(unittest.TestCase):
         self.assertEqual(list_owner([[[] for _ in range(3)] for _ in range(3)]), [ZERO, ZERO, ZERO])
         self.assertEqual(list_owner(list_tables([ZERO, [((5,), -2), ((6,), -1)]])), [ZERO, line(1, 2)])
         self.assertEqual(list_owner(list_tables([line(2, 1), ONE])), [line(2, 1), ONE])
+        # The least list in the order of point 3 is not that of the least kin in dense order.
+        self.assertEqual(list_owner([[own_table(line(4, 0, 3, 4))]]), [line(4, 3, 0, 4)])
 
     def test_lists_of_small_rows(self):
         groups = {}

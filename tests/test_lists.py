@@ -254,6 +254,8 @@ class ListKinTest(unittest.TestCase):
             list_kin([ZERO, line(-4, -2), line(0, 2, 1)]),
             [[ZERO, line(2, 4), line(0, -1, -2)], [ZERO, line(4, 2), line(0, -2, -1)]],
         )
+        # The order is that of point 3, not the dense order of the kin.
+        self.assertEqual(list_kin([line(4, 0, 3, 4)]), [[line(4, 3, 0, 4)], [line(4, 0, 3, 4)]])
         self.assertEqual([list_count([ZERO]), list_count([ONE, ZERO]), list_count([line(1, 2), line(2, 4)])], [1, 1, 2])
 
     def test_all_lists_of_small_rows(self):
